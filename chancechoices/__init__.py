@@ -1,0 +1,1 @@
+"""Choices and chances: states, what may be chosen in each, and where that leads by chance."""
