@@ -1,185 +1,213 @@
 """The calls of choices and chances, over a text given as a list of bytes."""
+from chancechoices.texts import BLANK, LINE_END, MINUS, SLASH, ZERO, NoSuchText, read_states
 
 LONGEST_TEXT = 65536
-LONGEST_NAME = 16
-MOST_DIGITS = 7
-GREATEST_NUMBER = 1000000
-GREATEST_GAIN = 1000
-GREATEST_WEIGHT = 1000
-MOST_STATES = 16
-MOST_CHOICES = 8
+GREATEST_ROOM = 65536
+GREATEST_GOALS = 65535
 
 OUT_OF_RANGE = -1
 NO_SUCH_TEXT = -2
-
-LINE_END = 10
-LAST_BLANK = 32
-HASH = 35
-COMMA = 44
-MINUS = 45
-SLASH = 47
-COLON = 58
-SEMICOLON = 59
-UNDERSCORE = 95
-LEFT_BRACE = 123
-RIGHT_BRACE = 125
-# Above every byte, so that it is neither a blank nor part of anything.
-TEXT_END = 256
-
-# The bytes of "state". It is no reserved word: states and choices may bear it as their name.
-STATE_WORD = (115, 116, 97, 116, 101)
+NO_SUCH_GOAL = -3
+NO_ROOM = -7
 
 
-class NoSuchText(Exception):
+class OutOfRange(Exception):
     pass
 
 
-def demand(holds):
-    if not holds:
-        raise NoSuchText()
+class NoSuchGoal(Exception):
+    pass
 
 
-def is_digit(byte):
-    return 48 <= byte <= 57
+class NoRoom(Exception):
+    pass
 
 
-def is_letter(byte):
-    return 65 <= byte <= 90 or 97 <= byte <= 122
+def demand_range(number, least, greatest):
+    if not least <= number <= greatest:
+        raise OutOfRange()
 
 
-def is_name_byte(byte):
-    return is_letter(byte) or is_digit(byte) or byte == UNDERSCORE
+def read_given(text, room):
+    demand_range(len(text), 0, LONGEST_TEXT)
+    demand_range(room, 0, GREATEST_ROOM)
+    return read_states(text)
 
 
-def all_differ(names):
-    return len(set(names)) == len(names)
-
-
-# Goes through a text from part to part; blanks are skipped ahead of each part.
-class Reader:
-    def __init__(self, text):
-        self.text = text
-        self.place = 0
-
-    def here(self):
-        if self.place < len(self.text):
-            return self.text[self.place]
-        return TEXT_END
-
-    def skip_remark(self):
-        while self.here() != LINE_END and self.here() != TEXT_END:
-            self.place += 1
-
-    def skip_blanks(self):
-        while self.here() <= LAST_BLANK or self.here() == HASH:
-            if self.here() == HASH:
-                self.skip_remark()
-            else:
-                self.place += 1
-
-    def at_end(self):
-        self.skip_blanks()
-        return self.here() == TEXT_END
-
-    def passes(self, mark):
-        self.skip_blanks()
-        if self.here() != mark:
-            return False
-        self.place += 1
-        return True
-
-    # A name goes as far as its bytes go: "a5" is one name, not a name and a number.
-    def take_name(self):
-        self.skip_blanks()
-        demand(is_letter(self.here()))
-        start = self.place
-        while is_name_byte(self.here()):
-            self.place += 1
-        demand(self.place - start <= LONGEST_NAME)
-        return tuple(self.text[start:self.place])
-
-    def take_number(self):
-        self.skip_blanks()
-        start = self.place
-        while is_digit(self.here()):
-            self.place += 1
-        # Asked ahead of the sum, so that no number of thousands of digits is worked out.
-        demand(1 <= self.place - start <= MOST_DIGITS)
-        number = 0
-        for byte in self.text[start:self.place]:
-            number = number * 10 + byte - 48
-        demand(number <= GREATEST_NUMBER)
-        return number
-
-
-def read_gain(reader):
-    below = reader.passes(MINUS)
-    number = reader.take_number()
-    demand(number <= GREATEST_GAIN)
-    return -number if below else number
-
-
-# A way is (the name of the state it leads to, weight).
-def read_way(reader):
-    name = reader.take_name()
-    weight = 1
-    if reader.passes(SLASH):
-        weight = reader.take_number()
-    demand(1 <= weight <= GREATEST_WEIGHT)
-    return (name, weight)
-
-
-# A choice is (name, gain, ways).
-def read_choice(reader):
-    name = reader.take_name()
-    gain = read_gain(reader)
-    demand(reader.passes(COLON))
-    ways = [read_way(reader)]
-    while reader.passes(COMMA):
-        ways.append(read_way(reader))
-    demand(reader.passes(SEMICOLON))
-    demand(all_differ([way[0] for way in ways]))
-    return (name, gain, ways)
-
-
-# A state is (name, choices).
-def read_state(reader):
-    demand(reader.take_name() == STATE_WORD)
-    name = reader.take_name()
-    demand(reader.passes(LEFT_BRACE))
-    choices = []
-    while not reader.passes(RIGHT_BRACE):
-        choices.append(read_choice(reader))
-    demand(len(choices) <= MOST_CHOICES)
-    demand(all_differ([choice[0] for choice in choices]))
-    return (name, choices)
-
-
-# Asked once all states are read: a way may lead to a state that is told later.
-def demand_ways_to_states(states):
-    names = [state[0] for state in states]
-    for state in states:
-        for choice in state[1]:
-            for way in choice[2]:
-                demand(way[0] in names)
-
-
-def read_states(text):
-    reader = Reader(text)
-    states = []
-    while not reader.at_end():
-        states.append(read_state(reader))
-    demand(1 <= len(states) <= MOST_STATES)
-    demand(all_differ([state[0] for state in states]))
-    demand_ways_to_states(states)
+def read_given_goals(text, room, goals):
+    demand_range(goals, 0, GREATEST_GOALS)
+    states = read_given(text, room)
+    if goals >> len(states) != 0:
+        raise NoSuchGoal()
     return states
 
 
-def check(text):
-    if len(text) > LONGEST_TEXT:
-        return [OUT_OF_RANGE]
+def answer(work):
     try:
-        states = read_states(text)
+        return work()
+    except OutOfRange:
+        return [OUT_OF_RANGE]
     except NoSuchText:
         return [NO_SUCH_TEXT]
-    return [len(states)]
+    except NoSuchGoal:
+        return [NO_SUCH_GOAL]
+    except NoRoom:
+        return [NO_ROOM]
+
+
+def common_divisor(number, other):
+    while other != 0:
+        rest = number % other
+        number = other
+        other = rest
+    return number
+
+
+# Not by str: Python may refuse to write a number of very many digits.
+def digits_of(number):
+    digits = [ZERO + number % 10]
+    while number >= 10:
+        number //= 10
+        digits.append(ZERO + number % 10)
+    return list(reversed(digits))
+
+
+def fraction_told(top, bottom):
+    divisor = common_divisor(top, bottom)
+    told = digits_of(abs(top) // divisor)
+    if bottom != divisor:
+        told = told + [SLASH] + digits_of(bottom // divisor)
+    return [MINUS] + told if top < 0 else told
+
+
+def tell(states, words, room):
+    told = []
+    for state, word in zip(states, words):
+        told.extend(list(state.name) + [BLANK] + word + [LINE_END])
+    if room < len(told):
+        raise NoRoom()
+    return [len(told)] + told
+
+
+# A number for each state: its own top over the bottom, which is above 0 and the same for all.
+class Values:
+    def __init__(self, tops, bottom):
+        self.tops = tops
+        self.bottom = bottom
+
+    def told(self):
+        return [fraction_told(top, self.bottom) for top in self.tops]
+
+
+# Takes the pivot's unknown out of another row. The pivot before this one divides what comes of it without rest.
+def cleared(row, pivot_row, turn, pivot_before):
+    pivot = pivot_row[turn]
+    factor = row[turn]
+    return [(pivot * number - factor * other) // pivot_before for number, other in zip(row, pivot_row)]
+
+
+# Solves equations: a row has a factor for each unknown, then what these come to. No two rows need to change places:
+# where every number is a mean of others, and all of them lead to an end, each pivot is above 0.
+def solve(rows):
+    pivot = 1
+    for turn in range(len(rows)):
+        pivot_row = rows[turn]
+        rows = [row if place == turn else cleared(row, pivot_row, turn, pivot) for place, row in enumerate(rows)]
+        pivot = pivot_row[turn]
+    return Values([row[-1] for row in rows], pivot)
+
+
+# Seeks the greatest number for each state: its end where it has no options, else what is to be expected after one
+# of them. A plan says for each state which of its options is taken.
+class Quest:
+    def __init__(self, options, ends):
+        self.options = options
+        self.ends = ends
+
+    # What the state's number comes to by the plan, multiplied so that all is whole.
+    def equation(self, plan, place):
+        row = [0] * (len(plan) + 1)
+        if len(self.options[place]) == 0:
+            row[place] = 1
+            row[-1] = self.ends[place]
+            return row
+        choice = self.options[place][plan[place]]
+        row[place] = choice.total
+        for way in choice.ways:
+            row[way[0]] -= way[1]
+        return row
+
+    # What is to be expected after the choice; the bottom is that of the values times the choice's total.
+    def top_after(self, choice, values):
+        return sum([way[1] * values.tops[way[0]] for way in choice.ways])
+
+    def is_better(self, choice, other, values):
+        return self.top_after(choice, values) * other.total > self.top_after(other, values) * choice.total
+
+    # Leaves an option for a better one alone: then a plan that leads to an end for sure is followed by such a plan.
+    def improved(self, plan, values):
+        better = list(plan)
+        for place, choices in enumerate(self.options):
+            for number, choice in enumerate(choices):
+                if self.is_better(choice, choices[better[place]], values):
+                    better[place] = number
+        return better
+
+    # The plan that is begun with must lead to an end for sure.
+    def greatest(self, plan):
+        while True:
+            values = solve([self.equation(plan, place) for place in range(len(plan))])
+            better = self.improved(plan, values)
+            if better == plan:
+                return values
+            plan = better
+
+
+def goal_marks(goals, states):
+    return [goals >> place & 1 for place in range(len(states))]
+
+
+# Whoever has come to a goal chooses no more.
+def options_till(marks, states):
+    return [[] if mark else state.choices for mark, state in zip(marks, states)]
+
+
+def leads_into(choice, marks):
+    return any([marks[way[0]] for way in choice.ways])
+
+
+# A plan by which one may come to a goal from wherever that can be; -1 at the goals and where it can't.
+def plan_toward(marks, options):
+    reached = list(marks)
+    plan = [-1 for mark in marks]
+    # Each turn reaches one state more, or there is none left to reach.
+    for turn in range(len(marks)):
+        for place, choices in enumerate(options):
+            for number, choice in enumerate(choices):
+                if not reached[place] and leads_into(choice, reached):
+                    reached[place] = 1
+                    plan[place] = number
+    return plan
+
+
+# Where no goal can be come to the chance is 0, and the options are left out: among them a plan may lead to no end.
+def tell_best(goals, room, text):
+    states = read_given_goals(text, room, goals)
+    marks = goal_marks(goals, states)
+    options = options_till(marks, states)
+    plan = plan_toward(marks, options)
+    quest = Quest([choices if number >= 0 else [] for number, choices in zip(plan, options)], marks)
+    return tell(states, quest.greatest(plan).told(), room)
+
+
+def tell_check(text):
+    demand_range(len(text), 0, LONGEST_TEXT)
+    return [len(read_states(text))]
+
+
+def check(text):
+    return answer(lambda: tell_check(text))
+
+
+def best(goals, room, text):
+    return answer(lambda: tell_best(goals, room, text))

@@ -4,14 +4,10 @@ import io
 import sys
 import unittest
 
-from chancechoices import chances
+from calls import Unchangeable, as_bytes, few_calls_within_one_another, modules_kept
 from chancechoices.chances import check
 
 NO_TEXT = [-2]
-
-
-def as_bytes(words):
-    return list(words.encode("latin-1"))
 
 
 def checked(words):
@@ -32,16 +28,6 @@ def states(names):
 
 def choices(names):
     return "state a {" + "".join(name + " 0: a;" for name in names) + "}"
-
-
-class Unchangeable(list):
-    """A list that refuses every change, so that not even a change that is undone passes."""
-
-    def refuse(self, *given, **named):
-        raise AssertionError("the text was changed")
-
-    __setitem__ = __delitem__ = __iadd__ = __imul__ = refuse
-    append = extend = insert = pop = remove = clear = sort = reverse = refuse
 
 
 class CheckCase(unittest.TestCase):
@@ -363,17 +349,8 @@ class HowLong(CheckCase):
 
     def test_calls_within_one_another_stay_few(self):
         text = as_bytes(self.filled("state a {}", "#\n", "", self.LONGEST)[:self.LONGEST])
-        depth = 0
-        frame = sys._getframe()
-        while frame is not None:
-            depth += 1
-            frame = frame.f_back
-        limit = sys.getrecursionlimit()
-        sys.setrecursionlimit(depth + 40)
-        try:
+        with few_calls_within_one_another():
             answer = check(text)
-        finally:
-            sys.setrecursionlimit(limit)
         self.assertEqual(answer, [1])
 
 
@@ -420,12 +397,11 @@ class NothingIsKept(CheckCase):
         text.extend(as_bytes(" state c {}"))
         self.assertEqual(check(text), [3])
 
-    def test_the_module_stays_as_it_is(self):
-        kept = {name: repr(value) for name, value in vars(chances).items() if name != "__builtins__"}
+    def test_the_modules_stay_as_they_are(self):
+        kept = modules_kept()
         checked("state a { x 1: a; } state b {}")
         checked("state a { x 1: c; }")
-        after = {name: repr(value) for name, value in vars(chances).items() if name != "__builtins__"}
-        self.assertEqual(after, kept)
+        self.assertEqual(modules_kept(), kept)
 
     def test_it_prints_and_imports_nothing(self):
         printed = io.StringIO()

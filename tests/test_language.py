@@ -13,7 +13,7 @@ ALLOWED_NODES = {
     "Subscript", "Slice", "Constant", "List", "Tuple", "Dict", "BinOp", "UnaryOp", "BoolOp", "Compare", "IfExp",
     "ListComp", "comprehension", "Lambda", "JoinedStr", "FormattedValue", "Load", "Store", "Add", "Sub", "Mult",
     "FloorDiv", "Mod", "Pow", "BitAnd", "BitOr", "BitXor", "LShift", "RShift", "Invert", "USub", "UAdd", "Not",
-    "And", "Or", "Eq", "NotEq", "Lt", "LtE", "Gt", "GtE", "In", "NotIn", "Is", "IsNot",
+    "And", "Or", "Eq", "NotEq", "Lt", "LtE", "Gt", "GtE", "In", "NotIn", "Is", "IsNot", "ImportFrom", "alias",
 }
 ALLOWED_BUILTINS = set(
     "len range enumerate zip min max sum abs sorted reversed int str bool list tuple dict set frozenset isinstance "
@@ -78,8 +78,20 @@ class Form(unittest.TestCase):
             if isinstance(node, ast.Constant) and isinstance(node.value, str):
                 self.assertNotIn("%", node.value, where)
 
-    def test_nothing_is_imported(self):
-        self.assertEqual(nodes(ast.Import, ast.ImportFrom), [])
+    def test_only_names_of_the_packages_own_files_are_imported_from_where_they_stand(self):
+        tops = {"chancechoices." + path.stem: ast.parse(source).body for path, source in sources()}
+        for name, node in nodes(ast.ImportFrom):
+            self.assertEqual(node.level, 0, name)
+            self.assertIn(node.module, tops, name)
+            defined = [top.targets[0].id if isinstance(top, ast.Assign) else getattr(top, "name", "")
+                       for top in tops[node.module]]
+            for alias in node.names:
+                self.assertIn(alias.name, defined, name)
+                self.assertIsNone(alias.asname, name)
+
+    def test_no_two_files_draw_from_one_another(self):
+        self.assertEqual({(name, node.module) for name, node in nodes(ast.ImportFrom)},
+                         {("chances.py", "chancechoices.texts")})
 
     def test_names(self):
         for name, node in nodes(ast.Name):
@@ -107,12 +119,14 @@ class Form(unittest.TestCase):
         for path, source in sources():
             bound = []
             for node in ast.parse(source).body:
-                self.assertIsInstance(node, (ast.Expr, ast.FunctionDef, ast.ClassDef, ast.Assign), path)
+                self.assertIsInstance(node, (ast.Expr, ast.FunctionDef, ast.ClassDef, ast.Assign, ast.ImportFrom), path)
                 if isinstance(node, ast.Assign):
                     bound.append(node.targets[0].id)
                     ast.literal_eval(node.value)
                 elif isinstance(node, ast.Expr):
                     self.assertIsInstance(node.value, ast.Constant, path)
+                elif isinstance(node, ast.ImportFrom):
+                    bound += [alias.name for alias in node.names]
                 else:
                     bound.append(node.name)
             self.assertEqual(sorted(set(bound)), sorted(bound), path)

@@ -1,0 +1,144 @@
+"""Texts told as Python values, and slow second ways to what the calls answer: by trying every plan, and by asking
+whether given numbers are the only ones that fit."""
+import itertools
+import random
+from fractions import Fraction
+
+
+class Choice:
+    def __init__(self, name, gain, ways):
+        self.name = name
+        self.gain = gain
+        self.ways = ways
+        self.total = sum(ways.values())
+
+    def mean(self, numbers):
+        return sum(Fraction(weight, self.total) * numbers[to] for to, weight in self.ways.items())
+
+
+class Model:
+    """For each state its name and its choices; ways lead to the places of states."""
+
+    def __init__(self, names, choices):
+        self.names = names
+        self.choices = choices
+        self.size = len(names)
+
+    def words(self):
+        return "\n".join(
+            "state " + name + " {" + "".join(
+                " " + choice.name + " " + str(choice.gain) + ": " + ", ".join(
+                    self.names[to] + "/" + str(weight) for to, weight in choice.ways.items()) + ";"
+                for choice in choices) + " }"
+            for name, choices in zip(self.names, self.choices))
+
+    def goal_places(self, goals):
+        return {place for place in range(self.size) if goals >> place & 1}
+
+    def plans(self):
+        """Every way of choosing that always chooses alike; a state without choices has None."""
+        return itertools.product(*[choices or [None] for choices in self.choices])
+
+
+def random_model(chance, states, choices, ways, weight, gains=(-1000, 1000), fewest_choices=0):
+    size = chance.randint(1, states)
+    names = ["s" + str(place) for place in range(size)]
+    told = []
+    for place in range(size):
+        told.append([
+            Choice("c" + str(number), chance.randint(*gains), {
+                to: chance.randint(1, weight) for to in chance.sample(range(size), chance.randint(1, min(ways, size)))})
+            for number in range(chance.randint(fewest_choices, choices))])
+    return Model(names, told)
+
+
+def full_model(seed, gains=(-1000, 1000), least_weight=900, ends=(), ways=16):
+    """As much as a text may hold: 16 states, 8 choices, 16 ways, the longest names."""
+    chance = random.Random(seed)
+    names = ["state_number_" + str(100 + place) for place in range(16)]
+    told = []
+    for place in range(16):
+        told.append([] if place in ends else [
+            Choice("choice_number_" + str(10 + number), chance.randint(*gains), {
+                to: chance.randint(least_weight, 1000) for to in chance.sample(range(16), ways)})
+            for number in range(8)])
+    return Model(names, told)
+
+
+def solved(rows):
+    """Gauss, over fractions; rows of factors and what they come to."""
+    rows = [[Fraction(number) for number in row] for row in rows]
+    for k in range(len(rows)):
+        at = next(i for i in range(k, len(rows)) if rows[i][k] != 0)
+        rows[k], rows[at] = rows[at], rows[k]
+        rows[k] = [number / rows[k][k] for number in rows[k]]
+        for i in range(len(rows)):
+            if i != k and rows[i][k] != 0:
+                rows[i] = [a - rows[i][k] * b for a, b in zip(rows[i], rows[k])]
+    return [row[-1] for row in rows]
+
+
+def can_come(model, plan, places):
+    """From where one comes to one of the places with some chance if the plan is kept to."""
+    come = set(places)
+    while True:
+        more = {s for s in range(model.size) if plan[s] and s not in come and come & set(plan[s].ways)}
+        if not more:
+            return come
+        come |= more
+
+
+def solve_plan(model, plan, fixed, factor=Fraction(1), gains=True):
+    rows = []
+    for s in range(model.size):
+        row = [Fraction(0)] * (model.size + 1)
+        row[s] = Fraction(1)
+        if s in fixed:
+            row[-1] = Fraction(fixed[s])
+        else:
+            for to, weight in plan[s].ways.items():
+                row[to] -= factor * Fraction(weight, plan[s].total)
+            row[-1] = Fraction(plan[s].gain if gains else 0)
+        rows.append(row)
+    return solved(rows)
+
+
+def chances_by_plan(model, plan, goals):
+    goal_places = model.goal_places(goals)
+    come = can_come(model, plan, goal_places)
+    fixed = {s: 1 if s in goal_places else 0 for s in range(model.size) if s in goal_places or s not in come}
+    return solve_plan(model, plan, fixed, gains=False)
+
+
+def each_by_plans(model, numbers_of, pick):
+    """Of all plans the numbers, state by state; pick tells which counts."""
+    found = [numbers_of(plan) for plan in model.plans()]
+    return [pick([numbers[s] for numbers in found]) for s in range(model.size)]
+
+
+def best_by_plans(model, goals):
+    return each_by_plans(model, lambda plan: chances_by_plan(model, plan, goals), max)
+
+
+def can_come_somehow(model, places, allowed=lambda s, choice: True):
+    come = set(places)
+    while True:
+        more = {s for s in range(model.size) if s not in come and any(
+            allowed(s, choice) and come & set(choice.ways) for choice in model.choices[s])}
+        if not more:
+            return come
+        come |= more
+
+
+def is_best(model, goals, numbers):
+    """No choice brings more than the numbers say, and by choices that bring as much one comes to a goal from where
+    they are above 0: so they are the greatest, and can be had."""
+    goal_places = model.goal_places(goals)
+    for s in range(model.size):
+        if s in goal_places:
+            if numbers[s] != 1:
+                return False
+        elif numbers[s] != max([choice.mean(numbers) for choice in model.choices[s]], default=0):
+            return False
+    come = can_come_somehow(model, goal_places, lambda s, choice: choice.mean(numbers) == numbers[s])
+    return all(numbers[s] == 0 or s in come for s in range(model.size))
