@@ -95,6 +95,9 @@ class Values:
         self.tops = tops
         self.bottom = bottom
 
+    def negative(self):
+        return Values([-top for top in self.tops], self.bottom)
+
     def told(self):
         return [fraction_told(top, self.bottom) for top in self.tops]
 
@@ -190,14 +193,39 @@ def plan_toward(marks, options):
     return plan
 
 
+# Marks where one comes to a goal with some chance, whatever is chosen.
+def marks_forced(marks, options):
+    forced = list(marks)
+    for turn in range(len(marks)):
+        for place, choices in enumerate(options):
+            if len(choices) > 0 and all([leads_into(choice, forced) for choice in choices]):
+                forced[place] = 1
+    return forced
+
+
+def options_where(marks, options):
+    return [choices if mark else [] for mark, choices in zip(marks, options)]
+
+
 # Where no goal can be come to the chance is 0, and the options are left out: among them a plan may lead to no end.
 def tell_best(goals, room, text):
     states = read_given_goals(text, room, goals)
     marks = goal_marks(goals, states)
     options = options_till(marks, states)
     plan = plan_toward(marks, options)
-    quest = Quest([choices if number >= 0 else [] for number, choices in zip(plan, options)], marks)
+    quest = Quest(options_where([number >= 0 for number in plan], options), marks)
     return tell(states, quest.greatest(plan).told(), room)
+
+
+# Where one can keep away from the goals the chance is 0, and the options are left out; every other plan leads to an
+# end. With -1 for a goal, the least chance is the greatest number's negative.
+def tell_worst(goals, room, text):
+    states = read_given_goals(text, room, goals)
+    marks = goal_marks(goals, states)
+    options = options_till(marks, states)
+    quest = Quest(options_where(marks_forced(marks, options), options), [-mark for mark in marks])
+    values = quest.greatest([0 for state in states])
+    return tell(states, values.negative().told(), room)
 
 
 def tell_check(text):
@@ -211,3 +239,7 @@ def check(text):
 
 def best(goals, room, text):
     return answer(lambda: tell_best(goals, room, text))
+
+
+def worst(goals, room, text):
+    return answer(lambda: tell_worst(goals, room, text))

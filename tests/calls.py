@@ -192,3 +192,51 @@ class GoalsToo(RoomAndText):
             (1, 0, wrong, -2), (1, 65537, wrong, -1), (-1, -1, wrong, -1), (65535, 0, far, -1), (0, 0, fine, -7),
         ):
             self.assertEqual(self.ask_goals(goals, room, text), [first], (goals, room))
+
+
+class ChancesOfGoals(GoalsToo):
+    """For a call that tells chances of coming to a goal."""
+
+    def told(self, goals, words):
+        return said(self.ask_goals(goals, 65536, as_bytes(words)))
+
+    def test_the_answer_number_by_number(self):
+        self.assertEqual(self.ask_goals(1, 18, as_bytes("state b {} state A_9 { go -3: b/2, end; } state end {}")),
+                         [18, 98, 32, 49, 10, 65, 95, 57, 32, 50, 47, 51, 10, 101, 110, 100, 32, 48, 10])
+
+    def test_lowest_terms(self):
+        for first, second, told in ((1, 1, "1/2"), (2, 2, "1/2"), (1000, 1000, "1/2"), (6, 4, "3/5"), (7, 3, "7/10"),
+                                    (999, 1, "999/1000"), (1, 999, "1/1000"), (10, 990, "1/100"), (400, 600, "2/5")):
+            words = "state a { x 0: b/" + str(first) + ", c/" + str(second) + "; } state b {} state c {}"
+            self.assertEqual(self.told(2, words), "a " + told + "\nb 1\nc 0\n")
+
+    def test_a_weight_that_is_not_told_is_1(self):
+        self.assertEqual(self.told(2, "state a { x 0: b, c/2; } state b {} state c {}"), "a 1/3\nb 1\nc 0\n")
+
+    def test_no_choice_is_named(self):
+        self.assertEqual(self.told(2, "state a { x 1: b; y 1: b; } state b { z 1: a; }"), "a 1\nb 1\n")
+
+    def test_no_goal(self):
+        self.assertEqual(self.told(0, "state a { x 1: b; } state b {}"), "a 0\nb 0\n")
+        self.assertEqual(self.told(0, "state a { x 1: a; }"), "a 0\n")
+
+    def test_goals_alone(self):
+        self.assertEqual(self.told(3, "state a { x 1: b; } state b {}"), "a 1\nb 1\n")
+        self.assertEqual(self.told(1, "state a {}"), "a 1\n")
+
+    def test_a_goal_stays_1_wherever_its_choices_lead(self):
+        self.assertEqual(self.told(1, "state a { x 1: b; } state b {}"), "a 1\nb 0\n")
+        self.assertEqual(self.told(1, "state a { x 1: b; } state b { y 1: a, c; } state c {}"), "a 1\nb 1/2\nc 0\n")
+
+    def test_bit_i_is_the_ith_state(self):
+        words = "".join("state s" + str(k) + " {}" for k in range(16))
+        for k in range(16):
+            lines = ["s" + str(j) + (" 1\n" if k == j else " 0\n") for j in range(16)]
+            self.assertEqual(self.told(1 << k, words), "".join(lines))
+
+    def test_a_state_without_choices_stays(self):
+        self.assertEqual(self.told(2, "state a {} state b {}"), "a 0\nb 1\n")
+        self.assertEqual(self.told(1, "state a {} state b {}"), "a 1\nb 0\n")
+
+    def test_going_round_for_ever_is_no_goal(self):
+        self.assertEqual(self.told(4, "state a { x 1: b; } state b { y 1: a; } state c {}"), "a 0\nb 0\nc 1\n")

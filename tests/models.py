@@ -40,15 +40,15 @@ class Model:
         return itertools.product(*[choices or [None] for choices in self.choices])
 
 
-def random_model(chance, states, choices, ways, weight, gains=(-1000, 1000), fewest_choices=0):
-    size = chance.randint(1, states)
+def random_model(chance, states, choices, ways, weight, gains=(-1000, 1000), fewest_states=1):
+    size = chance.randint(fewest_states, states)
     names = ["s" + str(place) for place in range(size)]
     told = []
     for place in range(size):
         told.append([
             Choice("c" + str(number), chance.randint(*gains), {
                 to: chance.randint(1, weight) for to in chance.sample(range(size), chance.randint(1, min(ways, size)))})
-            for number in range(chance.randint(fewest_choices, choices))])
+            for number in range(chance.randint(0, choices))])
     return Model(names, told)
 
 
@@ -120,6 +120,10 @@ def best_by_plans(model, goals):
     return each_by_plans(model, lambda plan: chances_by_plan(model, plan, goals), max)
 
 
+def worst_by_plans(model, goals):
+    return each_by_plans(model, lambda plan: chances_by_plan(model, plan, goals), min)
+
+
 def can_come_somehow(model, places, allowed=lambda s, choice: True):
     come = set(places)
     while True:
@@ -142,3 +146,30 @@ def is_best(model, goals, numbers):
             return False
     come = can_come_somehow(model, goal_places, lambda s, choice: choice.mean(numbers) == numbers[s])
     return all(numbers[s] == 0 or s in come for s in range(model.size))
+
+
+def can_keep_away(model, places):
+    """Where one can choose so that one never comes to one of the places."""
+    away = set(range(model.size)) - set(places)
+    while True:
+        lost = {s for s in away if model.choices[s] and not any(set(choice.ways) <= away for choice in model.choices[s])}
+        if not lost:
+            return away
+        away -= lost
+
+
+def is_worst(model, goals, numbers):
+    """No choice brings less than the numbers say, and they are 0 just where one can keep away: elsewhere every plan
+    comes to an end, so that only one set of numbers fits."""
+    goal_places = model.goal_places(goals)
+    away = can_keep_away(model, goal_places)
+    for s in range(model.size):
+        if s in goal_places:
+            fits = numbers[s] == 1
+        elif s in away:
+            fits = numbers[s] == 0
+        else:
+            fits = numbers[s] == min(choice.mean(numbers) for choice in model.choices[s])
+        if not fits:
+            return False
+    return True

@@ -2,7 +2,7 @@ import random
 import unittest
 from fractions import Fraction
 
-from calls import GoalsToo, as_bytes, numbers_said, said
+from calls import ChancesOfGoals, as_bytes, numbers_said, said
 from chancechoices.chances import best
 from models import best_by_plans, full_model, is_best, random_model
 
@@ -15,32 +15,12 @@ def best_numbers(goals, words):
     return numbers_said(best(goals, 65536, as_bytes(words)))
 
 
-class Refusals(GoalsToo, unittest.TestCase):
+class WhatIsCommon(ChancesOfGoals, unittest.TestCase):
     def ask_goals(self, goals, room, text):
         return best(goals, room, text)
 
 
-class Lines(unittest.TestCase):
-    def test_the_answer_number_by_number(self):
-        self.assertEqual(best(2, 8, as_bytes("state a { x 7: a, b; } state b {}")),
-                         [8, 97, 32, 49, 10, 98, 32, 49, 10])
-        self.assertEqual(best(1, 65536, as_bytes("state b { x 1: b; } state A_9 { go -3: b/2, end; } state end {}")),
-                         [18, 98, 32, 49, 10, 65, 95, 57, 32, 50, 47, 51, 10, 101, 110, 100, 32, 48, 10])
-
-    def test_lowest_terms(self):
-        for first, second, told in ((1, 1, "1/2"), (2, 2, "1/2"), (1000, 1000, "1/2"), (6, 4, "3/5"), (7, 3, "7/10"),
-                                    (999, 1, "999/1000"), (1, 999, "1/1000"), (10, 990, "1/100"), (400, 600, "2/5")):
-            words = "state a { x 0: b/" + str(first) + ", c/" + str(second) + "; } state b {} state c {}"
-            self.assertEqual(best_of(2, words), "a " + told + "\nb 1\nc 0\n")
-
-    def test_no_choice_is_named(self):
-        self.assertEqual(best_of(2, "state a { x 1: b; y 1: b; } state b { z 1: a; }"), "a 1\nb 1\n")
-
-
 class Chances(unittest.TestCase):
-    def test_a_weight_that_is_not_told_is_1(self):
-        self.assertEqual(best_of(2, "state a { x 0: b, c/2; } state b {} state c {}"), "a 1/3\nb 1\nc 0\n")
-
     def test_the_better_choice_wherever_it_stands(self):
         for order in ("x 1: b, c/2; y 1: b/3, c; z 1: b, c;", "y 1: b/3, c; x 1: b, c/2; z 1: b, c;",
                       "z 1: b, c; x 1: b, c/2; y 1: b/3, c;"):
@@ -50,31 +30,9 @@ class Chances(unittest.TestCase):
         self.assertEqual(best_of(2, "state a { x -1000: b/2, c; y 1000: b, c; } state b {} state c {}"),
                          "a 2/3\nb 1\nc 0\n")
 
-    def test_no_goal(self):
-        self.assertEqual(best_of(0, "state a { x 1: b; } state b {}"), "a 0\nb 0\n")
-        self.assertEqual(best_of(0, "state a { x 1: a; }"), "a 0\n")
-
-    def test_goals_alone(self):
-        self.assertEqual(best_of(3, "state a { x 1: b; } state b {}"), "a 1\nb 1\n")
-
-    def test_a_goal_stays_1_wherever_its_choices_lead(self):
-        self.assertEqual(best_of(1, "state a { x 1: b; } state b {}"), "a 1\nb 0\n")
-        self.assertEqual(best_of(1, "state a { x 1: b; } state b { y 1: a, c; } state c {}"), "a 1\nb 1/2\nc 0\n")
-
-    def test_bit_i_is_the_ith_state(self):
-        words = "".join("state s" + str(k) + " {}" for k in range(16))
-        for k in range(16):
-            self.assertEqual(best_numbers(1 << k, words), [1 if k == j else 0 for j in range(16)])
-
-    def test_a_state_without_choices_stays(self):
-        self.assertEqual(best_of(2, "state a {} state b {}"), "a 0\nb 1\n")
-
     def test_a_chance_that_comes_again_till_it_is_sure(self):
         self.assertEqual(best_of(2, "state a { x 1: a/1000, b; } state b {}"), "a 1\nb 1\n")
         self.assertEqual(best_of(4, "state a { x 1: b; } state b { y 1: a/1000, c; } state c {}"), "a 1\nb 1\nc 1\n")
-
-    def test_going_round_for_ever_is_no_goal(self):
-        self.assertEqual(best_of(4, "state a { x 1: b; } state b { y 1: a; } state c {}"), "a 0\nb 0\nc 1\n")
 
     def test_a_choice_that_only_waits_is_no_better(self):
         for order in ("wait 1: a; go 1: b, c;", "go 1: b, c; wait 1: a;"):
