@@ -1,9 +1,10 @@
 """The calls of choices and chances, over a text given as a list of bytes."""
-from chancechoices.texts import BLANK, LINE_END, MINUS, SLASH, ZERO, NoSuchText, read_states
+from chancechoices.texts import BLANK, LINE_END, MINUS, SLASH, ZERO, Choice, NoSuchText, read_states
 
 LONGEST_TEXT = 65536
 GREATEST_ROOM = 65536
 GREATEST_GOALS = 65535
+MOST_STEPS = 64
 
 OUT_OF_RANGE = -1
 NO_SUCH_TEXT = -2
@@ -165,6 +166,16 @@ class Quest:
                 return values
             plan = better
 
+    # The greatest numbers one step ahead of the values; each state must have an option.
+    def step_ahead(self, values):
+        plan = self.improved([0 for choices in self.options], values)
+        chosen = [choices[number] for number, choices in zip(plan, self.options)]
+        scale = 1
+        for choice in chosen:
+            scale = scale * choice.total // common_divisor(scale, choice.total)
+        tops = [self.top_after(choice, values) * (scale // choice.total) for choice in chosen]
+        return Values(tops, values.bottom * scale)
+
 
 def goal_marks(goals, states):
     return [goals >> place & 1 for place in range(len(states))]
@@ -228,6 +239,23 @@ def tell_worst(goals, room, text):
     return tell(states, values.negative().told(), room)
 
 
+def staying(place):
+    return Choice((), 0, [(place, 1)])
+
+
+# Goes from no step on to so many: a choice may be another one at each step.
+def tell_within(goals, steps, room, text):
+    demand_range(steps, 0, MOST_STEPS)
+    states = read_given_goals(text, room, goals)
+    marks = goal_marks(goals, states)
+    options = options_till(marks, states)
+    quest = Quest([choices if len(choices) > 0 else [staying(place)] for place, choices in enumerate(options)], marks)
+    values = Values(marks, 1)
+    for step in range(steps):
+        values = quest.step_ahead(values)
+    return tell(states, values.told(), room)
+
+
 def tell_check(text):
     demand_range(len(text), 0, LONGEST_TEXT)
     return [len(read_states(text))]
@@ -243,3 +271,7 @@ def best(goals, room, text):
 
 def worst(goals, room, text):
     return answer(lambda: tell_worst(goals, room, text))
+
+
+def within(goals, steps, room, text):
+    return answer(lambda: tell_within(goals, steps, room, text))

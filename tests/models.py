@@ -173,3 +173,25 @@ def is_worst(model, goals, numbers):
         if not fits:
             return False
     return True
+
+
+def within_by_steps(model, goals, steps):
+    goal_places = model.goal_places(goals)
+    numbers = [Fraction(int(s in goal_places)) for s in range(model.size)]
+    for step in range(steps):
+        numbers = [Fraction(1) if s in goal_places else max(
+            [choice.mean(numbers) for choice in model.choices[s]], default=Fraction(0)) for s in range(model.size)]
+    return numbers
+
+
+def within_by_plans(model, goals, steps):
+    """Tries every row of plans, one for each step."""
+    goal_places = model.goal_places(goals)
+    greatest = [Fraction(0)] * model.size
+    for row in itertools.product(list(model.plans()), repeat=steps):
+        numbers = [Fraction(int(s in goal_places)) for s in range(model.size)]
+        for plan in row:
+            numbers = [numbers[s] if s in goal_places or plan[s] is None else plan[s].mean(numbers)
+                       for s in range(model.size)]
+        greatest = [max(pair) for pair in zip(greatest, numbers)]
+    return greatest
