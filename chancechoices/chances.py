@@ -9,7 +9,11 @@ MOST_STEPS = 64
 OUT_OF_RANGE = -1
 NO_SUCH_TEXT = -2
 NO_SUCH_GOAL = -3
+GAIN_TOO_LOW = -4
 NO_ROOM = -7
+
+# The bytes of "never".
+NEVER_WORD = (110, 101, 118, 101, 114)
 
 
 class OutOfRange(Exception):
@@ -17,6 +21,10 @@ class OutOfRange(Exception):
 
 
 class NoSuchGoal(Exception):
+    pass
+
+
+class GainTooLow(Exception):
     pass
 
 
@@ -52,6 +60,8 @@ def answer(work):
         return [NO_SUCH_TEXT]
     except NoSuchGoal:
         return [NO_SUCH_GOAL]
+    except GainTooLow:
+        return [GAIN_TOO_LOW]
     except NoRoom:
         return [NO_ROOM]
 
@@ -121,8 +131,8 @@ def solve(rows):
     return Values([row[-1] for row in rows], pivot)
 
 
-# Seeks the greatest number for each state: its end where it has no options, else what is to be expected after one
-# of them. A plan says for each state which of its options is taken.
+# Seeks the greatest number for each state: its end where it has no options, else the gain of one of them and what is
+# to be expected after it. A plan says for each state which of its options is taken.
 class Quest:
     def __init__(self, options, ends):
         self.options = options
@@ -139,14 +149,16 @@ class Quest:
         row[place] = choice.total
         for way in choice.ways:
             row[way[0]] -= way[1]
+        row[-1] = choice.gain * choice.total
         return row
 
-    # What is to be expected after the choice; the bottom is that of the values times the choice's total.
-    def top_after(self, choice, values):
-        return sum([way[1] * values.tops[way[0]] for way in choice.ways])
+    # What the choice comes to if the values are those ahead; the bottom is theirs times the choice's total.
+    def top_by(self, choice, values):
+        ahead = sum([way[1] * values.tops[way[0]] for way in choice.ways])
+        return choice.gain * choice.total * values.bottom + ahead
 
     def is_better(self, choice, other, values):
-        return self.top_after(choice, values) * other.total > self.top_after(other, values) * choice.total
+        return self.top_by(choice, values) * other.total > self.top_by(other, values) * choice.total
 
     # Leaves an option for a better one alone: then a plan that leads to an end for sure is followed by such a plan.
     def improved(self, plan, values):
@@ -173,21 +185,36 @@ class Quest:
         scale = 1
         for choice in chosen:
             scale = scale * choice.total // common_divisor(scale, choice.total)
-        tops = [self.top_after(choice, values) * (scale // choice.total) for choice in chosen]
+        tops = [self.top_by(choice, values) * (scale // choice.total) for choice in chosen]
         return Values(tops, values.bottom * scale)
+
+    # The first choice by which the state's value comes about, behind a blank; nothing where there are no options.
+    def choice_told(self, place, values):
+        for choice in self.options[place]:
+            if self.top_by(choice, values) == values.tops[place] * choice.total:
+                return [BLANK] + list(choice.name)
+        return []
 
 
 def goal_marks(goals, states):
     return [goals >> place & 1 for place in range(len(states))]
 
 
-# Whoever has come to a goal chooses no more.
-def options_till(marks, states):
-    return [[] if mark else state.choices for mark, state in zip(marks, states)]
+def gains_taken(choices, times):
+    return [Choice(choice.name, choice.gain * times, choice.ways) for choice in choices]
+
+
+# Whoever has come to a goal chooses no more. Each gain counts so many times.
+def options_till(marks, states, times):
+    return [[] if mark else gains_taken(state.choices, times) for mark, state in zip(marks, states)]
 
 
 def leads_into(choice, marks):
     return any([marks[way[0]] for way in choice.ways])
+
+
+def choices_staying_in(marks, choices):
+    return [choice for choice in choices if all([marks[way[0]] for way in choice.ways])]
 
 
 # A plan by which one may come to a goal from wherever that can be; -1 at the goals and where it can't.
@@ -214,6 +241,16 @@ def marks_forced(marks, options):
     return forced
 
 
+# The choices that keep a goal sure: those are dropped that may lead to where no goal can be come to any more.
+def options_sure(marks, options):
+    # Each turn drops what leads to one state more, or there is nothing left to drop.
+    for turn in range(len(marks)):
+        plan = plan_toward(marks, options)
+        sure = [mark == 1 or number >= 0 for mark, number in zip(marks, plan)]
+        options = [choices_staying_in(sure, choices) for choices in options]
+    return options
+
+
 def options_where(marks, options):
     return [choices if mark else [] for mark, choices in zip(marks, options)]
 
@@ -222,7 +259,7 @@ def options_where(marks, options):
 def tell_best(goals, room, text):
     states = read_given_goals(text, room, goals)
     marks = goal_marks(goals, states)
-    options = options_till(marks, states)
+    options = options_till(marks, states, 0)
     plan = plan_toward(marks, options)
     quest = Quest(options_where([number >= 0 for number in plan], options), marks)
     return tell(states, quest.greatest(plan).told(), room)
@@ -233,7 +270,7 @@ def tell_best(goals, room, text):
 def tell_worst(goals, room, text):
     states = read_given_goals(text, room, goals)
     marks = goal_marks(goals, states)
-    options = options_till(marks, states)
+    options = options_till(marks, states, 0)
     quest = Quest(options_where(marks_forced(marks, options), options), [-mark for mark in marks])
     values = quest.greatest([0 for state in states])
     return tell(states, values.negative().told(), room)
@@ -248,12 +285,35 @@ def tell_within(goals, steps, room, text):
     demand_range(steps, 0, MOST_STEPS)
     states = read_given_goals(text, room, goals)
     marks = goal_marks(goals, states)
-    options = options_till(marks, states)
+    options = options_till(marks, states, 0)
     quest = Quest([choices if len(choices) > 0 else [staying(place)] for place, choices in enumerate(options)], marks)
     values = Values(marks, 1)
     for step in range(steps):
         values = quest.step_ahead(values)
     return tell(states, values.told(), room)
+
+
+def demand_costs(states):
+    for state in states:
+        if any([choice.gain < 1 for choice in state.choices]):
+            raise GainTooLow()
+
+
+# A plan that may come to no goal costs more than any other: so the least cost is the greatest number's negative.
+def tell_cost(goals, room, text):
+    states = read_given_goals(text, room, goals)
+    demand_costs(states)
+    marks = goal_marks(goals, states)
+    options = options_sure(marks, options_till(marks, states, -1))
+    quest = Quest(options, [0 for state in states])
+    values = quest.greatest(plan_toward(marks, options))
+    words = []
+    for place, number in enumerate(values.negative().told()):
+        if marks[place] == 1 or len(options[place]) > 0:
+            words.append(number + quest.choice_told(place, values))
+        else:
+            words.append(list(NEVER_WORD))
+    return tell(states, words, room)
 
 
 def tell_check(text):
@@ -275,3 +335,7 @@ def worst(goals, room, text):
 
 def within(goals, steps, room, text):
     return answer(lambda: tell_within(goals, steps, room, text))
+
+
+def cost(goals, room, text):
+    return answer(lambda: tell_cost(goals, room, text))

@@ -20,7 +20,9 @@ def said(answer):
 
 
 def numbers_said(answer):
-    return [Fraction(line.split(" ")[1]) for line in said(answer).splitlines()]
+    """The lines' numbers; None for "never"."""
+    told = [line.split(" ")[1] for line in said(answer).splitlines()]
+    return [None if number == "never" else Fraction(number) for number in told]
 
 
 class Unchangeable(list):

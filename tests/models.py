@@ -152,7 +152,7 @@ def can_keep_away(model, places):
     """Where one can choose so that one never comes to one of the places."""
     away = set(range(model.size)) - set(places)
     while True:
-        lost = {s for s in away if model.choices[s] and not any(set(choice.ways) <= away for choice in model.choices[s])}
+        lost = {s for s in away if model.choices[s] and all(set(choice.ways) - away for choice in model.choices[s])}
         if not lost:
             return away
         away -= lost
@@ -195,3 +195,73 @@ def within_by_plans(model, goals, steps):
                        for s in range(model.size)]
         greatest = [max(pair) for pair in zip(greatest, numbers)]
     return greatest
+
+
+def first_that_fits(model, numbers, of_choice):
+    """For each state the name of its first choice by which its number comes about, or None."""
+    return [next((choice.name for choice in model.choices[s] if of_choice(choice) == numbers[s]), None)
+            for s in range(model.size)]
+
+
+def costs_by_plan(model, plan, goals):
+    """What is to be expected till a goal by the plan; None where no goal is sure."""
+    goal_places = model.goal_places(goals)
+    come = can_come(model, plan, goal_places)
+    stuck = set(range(model.size)) - come
+    until_goal = [None if s in goal_places else plan[s] for s in range(model.size)]
+    unsure = can_come(model, until_goal, stuck)
+    fixed = {s: 0 for s in goal_places | unsure}
+    numbers = solve_plan(model, plan, fixed)
+    return [None if s in unsure else numbers[s] for s in range(model.size)]
+
+
+def costs_by_plans(model, goals):
+    return each_by_plans(model, lambda plan: costs_by_plan(model, plan, goals),
+                         lambda numbers: min([number for number in numbers if number is not None], default=None))
+
+
+def cost_of_choice(choice, numbers):
+    """None where a goal is no more sure."""
+    if any(numbers[to] is None for to in choice.ways):
+        return None
+    return choice.gain + choice.mean(numbers)
+
+
+def can_be_sure(model, places):
+    sure = set(range(model.size))
+    while True:
+        come = can_come_somehow(model, places, lambda s, choice: s in sure and set(choice.ways) <= sure)
+        if come >= sure:
+            return sure
+        sure &= come
+
+
+def is_cost(model, goals, numbers):
+    """There are numbers just where a goal can be made sure, and no choice that keeps it sure costs less than they say:
+    as every choice costs something, only one set of numbers fits."""
+    goal_places = model.goal_places(goals)
+    if {s for s in range(model.size) if numbers[s] is not None} != can_be_sure(model, goal_places):
+        return False
+    for s in range(model.size):
+        costs = [cost_of_choice(choice, numbers) for choice in model.choices[s]]
+        if s in goal_places:
+            fits = numbers[s] == 0
+        else:
+            fits = numbers[s] == min([cost for cost in costs if cost is not None], default=None)
+        if not fits:
+            return False
+    return True
+
+
+def cost_lines(model, goals, numbers):
+    goal_places = model.goal_places(goals)
+    firsts = first_that_fits(model, numbers, lambda choice: cost_of_choice(choice, numbers))
+    lines = []
+    for s in range(model.size):
+        if s in goal_places:
+            lines.append(model.names[s] + " 0\n")
+        elif numbers[s] is None:
+            lines.append(model.names[s] + " never\n")
+        else:
+            lines.append(model.names[s] + " " + str(numbers[s]) + " " + firsts[s] + "\n")
+    return "".join(lines)
