@@ -5,6 +5,8 @@ LONGEST_TEXT = 65536
 GREATEST_ROOM = 65536
 GREATEST_GOALS = 65535
 MOST_STEPS = 64
+LEAST_Q = 2
+GREATEST_Q = 1000
 
 OUT_OF_RANGE = -1
 NO_SUCH_TEXT = -2
@@ -201,7 +203,7 @@ def goal_marks(goals, states):
 
 
 def gains_taken(choices, times):
-    return [Choice(choice.name, choice.gain * times, choice.ways) for choice in choices]
+    return [Choice(choice.name, choice.gain * times, choice.ways, choice.total) for choice in choices]
 
 
 # Whoever has come to a goal chooses no more. Each gain counts so many times.
@@ -277,7 +279,7 @@ def tell_worst(goals, room, text):
 
 
 def staying(place):
-    return Choice((), 0, [(place, 1)])
+    return Choice((), 0, [(place, 1)], 1)
 
 
 # Goes from no step on to so many: a choice may be another one at each step.
@@ -316,6 +318,26 @@ def tell_cost(goals, room, text):
     return tell(states, words, room)
 
 
+# What comes later counts for p / q: as if one went on with that chance alone, and else there were nothing more.
+def with_later_less(choice, p, q):
+    ways = [(way[0], way[1] * p) for way in choice.ways]
+    return Choice(choice.name, choice.gain, ways, choice.total * q)
+
+
+def options_with_later_less(choices, p, q):
+    return [with_later_less(choice, p, q) for choice in choices]
+
+
+def tell_worth(p, q, room, text):
+    demand_range(q, LEAST_Q, GREATEST_Q)
+    demand_range(p, 0, q - 1)
+    states = read_given(text, room)
+    quest = Quest([options_with_later_less(state.choices, p, q) for state in states], [0 for state in states])
+    values = quest.greatest([0 for state in states])
+    words = [number + quest.choice_told(place, values) for place, number in enumerate(values.told())]
+    return tell(states, words, room)
+
+
 def tell_check(text):
     demand_range(len(text), 0, LONGEST_TEXT)
     return [len(read_states(text))]
@@ -339,3 +361,7 @@ def within(goals, steps, room, text):
 
 def cost(goals, room, text):
     return answer(lambda: tell_cost(goals, room, text))
+
+
+def worth(p, q, room, text):
+    return answer(lambda: tell_worth(p, q, room, text))

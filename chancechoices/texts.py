@@ -126,12 +126,13 @@ def read_way(reader):
     return (name, weight)
 
 
+# Each way is gone with the chance of its weight out of the total.
 class Choice:
-    def __init__(self, name, gain, ways):
+    def __init__(self, name, gain, ways, total):
         self.name = name
         self.gain = gain
         self.ways = ways
-        self.total = sum([way[1] for way in ways])
+        self.total = total
 
 
 def read_choice(reader):
@@ -143,7 +144,7 @@ def read_choice(reader):
         ways.append(read_way(reader))
     demand(reader.passes(SEMICOLON))
     demand(all_differ([way[0] for way in ways]))
-    return Choice(name, gain, ways)
+    return Choice(name, gain, ways, sum([way[1] for way in ways]))
 
 
 class State:

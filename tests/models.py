@@ -265,3 +265,25 @@ def cost_lines(model, goals, numbers):
         else:
             lines.append(model.names[s] + " " + str(numbers[s]) + " " + firsts[s] + "\n")
     return "".join(lines)
+
+
+def worths_by_plans(model, factor):
+    def by_plan(plan):
+        return solve_plan(model, plan, {s: 0 for s in range(model.size) if plan[s] is None}, factor)
+    return each_by_plans(model, by_plan, max)
+
+
+def worth_of_choice(choice, numbers, factor):
+    return choice.gain + factor * choice.mean(numbers)
+
+
+def is_worth(model, factor, numbers):
+    """No choice brings more than the numbers say: as what is later counts for less, only one set of numbers fits."""
+    return all(numbers[s] == max([worth_of_choice(choice, numbers, factor) for choice in model.choices[s]], default=0)
+               for s in range(model.size))
+
+
+def worth_lines(model, factor, numbers):
+    firsts = first_that_fits(model, numbers, lambda choice: worth_of_choice(choice, numbers, factor))
+    return "".join(model.names[s] + " " + str(numbers[s]) + (" " + firsts[s] if model.choices[s] else "") + "\n"
+                   for s in range(model.size))
