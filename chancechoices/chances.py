@@ -186,7 +186,7 @@ class Quest:
         chosen = [choices[number] for number, choices in zip(plan, self.options)]
         scale = 1
         for choice in chosen:
-            scale = scale * choice.total // common_divisor(scale, choice.total)
+            scale *= choice.total
         tops = [self.top_by(choice, values) * (scale // choice.total) for choice in chosen]
         return Values(tops, values.bottom * scale)
 
@@ -233,14 +233,15 @@ def plan_toward(marks, options):
     return plan
 
 
-# Marks where one comes to a goal with some chance, whatever is chosen.
-def marks_forced(marks, options):
-    forced = list(marks)
-    for turn in range(len(marks)):
+# Marks where one comes to an end, a state without options, whatever is chosen: if each option leads there by some
+# chance, one can't keep away for ever.
+def marks_ending(options):
+    ending = [0 for choices in options]
+    for turn in range(len(options)):
         for place, choices in enumerate(options):
-            if len(choices) > 0 and all([leads_into(choice, forced) for choice in choices]):
-                forced[place] = 1
-    return forced
+            if all([leads_into(choice, ending) for choice in choices]):
+                ending[place] = 1
+    return ending
 
 
 # The choices that keep a goal sure: those are dropped that may lead to where no goal can be come to any more.
@@ -267,13 +268,13 @@ def tell_best(goals, room, text):
     return tell(states, quest.greatest(plan).told(), room)
 
 
-# Where one can keep away from the goals the chance is 0, and the options are left out; every other plan leads to an
-# end. With -1 for a goal, the least chance is the greatest number's negative.
+# Where one can go on for ever without a goal the chance is 0, and the options are left out: then every plan leads to
+# an end. With -1 for a goal, the least chance is the greatest number's negative.
 def tell_worst(goals, room, text):
     states = read_given_goals(text, room, goals)
     marks = goal_marks(goals, states)
     options = options_till(marks, states, 0)
-    quest = Quest(options_where(marks_forced(marks, options), options), [-mark for mark in marks])
+    quest = Quest(options_where(marks_ending(options), options), [-mark for mark in marks])
     values = quest.greatest([0 for state in states])
     return tell(states, values.negative().told(), room)
 
